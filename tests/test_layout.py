@@ -1,0 +1,93 @@
+"""The interface as it is written in the document, and the form of the package's files."""
+
+import ast
+import importlib
+import inspect
+import unittest
+from pathlib import Path
+
+PACKAGE = Path(__file__).resolve().parent.parent / "markfilters"
+
+# For each file that has landed its functions, and its classes with what is made with.
+INTERFACE = {
+    "errors": {
+        "InvalidNumber": ["value"], "InvalidMarks": ["value"], "InvalidMark": ["value"],
+        "InvalidKeys": ["value"], "InvalidItem": ["value"], "InvalidBits": ["value"],
+        "InvalidTelling": ["value"], "InvalidRows": ["value"], "InvalidTable": ["value"],
+        "InvalidQuestion": ["value"], "InvalidClaim": ["value"], "Undefined": ["what"],
+        "NothingToUndo": ["word"],
+    },
+    "markings": {"Marking": ["cells", "marks"]},
+    "filling": {
+        "filled": ["marking", "keys"], "says": ["marking", "bits"], "wrong": ["marking", "keys"],
+        "wrong_total": ["marking", "size"],
+    },
+}
+
+METHODS = {("markings", "Marking"): ["__init__", "__eq__", "__len__"]}
+
+LIBRARY = {"itertools", "math", "heapq", "collections"}
+
+
+def files():
+    return sorted(PACKAGE.rglob("*.py"))
+
+
+def tree_of(name):
+    return ast.parse((PACKAGE / f"{name}.py").read_text(encoding="ascii"))
+
+
+class InterfaceTest(unittest.TestCase):
+    def test_names_and_parameters(self):
+        for module, things in INTERFACE.items():
+            for name, parameters in things.items():
+                thing = getattr(importlib.import_module(f"markfilters.{module}"), name)
+                self.assertEqual(list(inspect.signature(thing).parameters), parameters, name)
+
+    def test_each_is_defined_in_its_own_file(self):
+        for module, things in INTERFACE.items():
+            body = tree_of(module).body
+            defined = [row.name for row in body if isinstance(row, (ast.FunctionDef, ast.ClassDef))]
+            for name in things:
+                self.assertEqual(defined.count(name), 1, name)
+
+    def test_methods_stand_in_the_class_itself(self):
+        for (module, name), methods in METHODS.items():
+            thing = getattr(importlib.import_module(f"markfilters.{module}"), name)
+            for method in methods:
+                self.assertIn(method, vars(thing))
+
+
+class FormTest(unittest.TestCase):
+    def test_the_folder_holds_python_files_only(self):
+        for path in PACKAGE.rglob("*"):
+            if "__pycache__" not in path.parts:
+                self.assertTrue(path.is_dir() or path.suffix == ".py", path)
+        self.assertTrue((PACKAGE / "__init__.py").exists())
+
+    def test_lines(self):
+        for path in files():
+            text = path.read_bytes().decode("ascii")
+            self.assertTrue(all(char == "\n" or " " <= char <= "~" for char in text), path)
+            lines = text.split("\n")
+            self.assertLessEqual(len(lines), 399, path)
+            self.assertLessEqual(max(map(len, lines)), 120, path)
+
+    def test_functions_are_small(self):
+        for path in files():
+            for node in ast.walk(ast.parse(path.read_text())):
+                if isinstance(node, ast.FunctionDef):
+                    self.assertLessEqual(node.end_lineno - node.lineno + 1, 40, node.name)
+
+    def test_imports(self):
+        for path in files():
+            for node in ast.walk(ast.parse(path.read_text())):
+                self.assertNotIsInstance(node, ast.Import, path)
+                if isinstance(node, ast.ImportFrom):
+                    self.assertEqual(node.level, 0, path)
+                    own = node.module.startswith("markfilters.")
+                    self.assertTrue(own or node.module in LIBRARY, (path, node.module))
+
+
+if __name__ == "__main__":
+    unittest.main()
