@@ -1,12 +1,15 @@
 """What the modules ask of values, perhaps of any kind."""
 
 
+def is_integer(value):
+    """Whether value, of any kind, is an integer."""
+    # A bool is an int to Python, but no integer here.
+    return isinstance(value, int) and not isinstance(value, bool)
+
+
 def is_integer_within(value, low, high):
     """Whether value, of any kind, is an integer from low to high, both let."""
-    # A bool is an int to Python, but no integer here.
-    if isinstance(value, bool) or not isinstance(value, int):
-        return False
-    return low <= value <= high
+    return is_integer(value) and low <= value <= high
 
 
 def is_ascending(value, below):

@@ -22,6 +22,8 @@ MARKINGS = [
     Marking(8, ((0,), (1,), (2,), (3,), (4,), (5,), (6,))),
 ]
 
+FOUR = MARKINGS[3]
+
 # No integers, as this package means them.
 NOT_INTEGERS = [
     True, False, None, "", "1", (), (1,), [], [1], ((),), 1.0, Marking(1, ((0,),)), ValueError("1"),

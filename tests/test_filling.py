@@ -1,38 +1,14 @@
 import unittest
 from itertools import combinations
 
-from samples import MARKINGS, NOT_INTEGERS, Plain, not_ascending_below, tuples_below
-from markfilters.errors import FilterError, InvalidBits, InvalidKeys, InvalidNumber
+from cases import Case
+from samples import FOUR, MARKINGS, NOT_INTEGERS, Plain, not_ascending_below, tuples_below
+from markfilters.errors import InvalidBits, InvalidKeys, InvalidNumber
 from markfilters.filling import filled, says, wrong, wrong_total
 from markfilters.markings import Marking
 
-FOUR = Marking(4, ((0,), (1,), (0, 1), (2, 3)))
 
-
-class FillingCase(unittest.TestCase):
-    def refused(self, call, kind, marking, value):
-        with self.subTest(call=call.__name__, value=value):
-            cells, marks = marking.cells, marking.marks
-            with self.assertRaises(FilterError) as caught:
-                call(marking, value)
-            self.assertIs(type(caught.exception), kind)
-            self.assertIs(caught.exception.value, value)
-            self.assertEqual((marking.cells, marking.marks), (cells, marks))
-
-    def plain(self, told):
-        self.assertIs(type(told), tuple)
-        for member in told:
-            self.assertIs(type(member), int)
-        self.assertEqual(list(told), sorted(set(told)))
-
-    def expected_cells(self, marking, keys):
-        return set().union(*[marking.marks[key] for key in keys])
-
-    def expected_yes(self, marking, bits):
-        return [item for item in range(len(marking.marks)) if set(marking.marks[item]) <= set(bits)]
-
-
-class FilledTest(FillingCase):
+class FilledTest(Case):
     def test_examples(self):
         self.assertEqual(filled(FOUR, ()), ())
         self.assertEqual(filled(FOUR, (0,)), (0,))
@@ -66,10 +42,11 @@ class FilledTest(FillingCase):
     def test_no_keys(self):
         for marking in (FOUR, MARKINGS[0], MARKINGS[6]):
             for value in not_ascending_below(len(marking)):
-                self.refused(filled, InvalidKeys, marking, value)
+                self.refused(InvalidKeys, value, filled, marking, value)
 
     def test_keys_are_items_not_cells(self):
-        self.refused(filled, InvalidKeys, Marking(8, ((0, 7),)), (1,))
+        keys = (1,)
+        self.refused(InvalidKeys, keys, filled, Marking(8, ((0, 7),)), keys)
         self.assertEqual(filled(Marking(1, ((0,),) * 7), (6,)), (0,))
 
     def test_by_name(self):
@@ -79,7 +56,7 @@ class FilledTest(FillingCase):
         self.plain(filled(FOUR, Plain((0, 1))))
 
 
-class SaysTest(FillingCase):
+class SaysTest(Case):
     def test_examples(self):
         self.assertEqual(says(FOUR, ()), ())
         self.assertEqual(says(FOUR, (0,)), (0,))
@@ -109,10 +86,11 @@ class SaysTest(FillingCase):
     def test_no_bits(self):
         for marking in (FOUR, MARKINGS[0], MARKINGS[6]):
             for value in not_ascending_below(marking.cells):
-                self.refused(says, InvalidBits, marking, value)
+                self.refused(InvalidBits, value, says, marking, value)
 
     def test_bits_are_cells_not_items(self):
-        self.refused(says, InvalidBits, Marking(1, ((0,),) * 7), (1,))
+        bits = (1,)
+        self.refused(InvalidBits, bits, says, Marking(1, ((0,),) * 7), bits)
         self.assertEqual(says(Marking(8, ((7,),)), (6, 7)), (0,))
 
     def test_by_name(self):
@@ -122,7 +100,7 @@ class SaysTest(FillingCase):
         self.plain(says(FOUR, Plain((0, 1))))
 
 
-class WrongTest(FillingCase):
+class WrongTest(Case):
     def test_examples(self):
         self.assertEqual(wrong(FOUR, ()), ())
         self.assertEqual(wrong(FOUR, (0,)), ())
@@ -151,7 +129,7 @@ class WrongTest(FillingCase):
     def test_no_keys(self):
         for marking in (FOUR, MARKINGS[0], MARKINGS[6]):
             for value in not_ascending_below(len(marking)):
-                self.refused(wrong, InvalidKeys, marking, value)
+                self.refused(InvalidKeys, value, wrong, marking, value)
 
     def test_by_name(self):
         self.assertEqual(wrong(keys=(2,), marking=FOUR), (0, 1))
@@ -160,7 +138,7 @@ class WrongTest(FillingCase):
         self.plain(wrong(FOUR, Plain((0, 1))))
 
 
-class WrongTotalTest(FillingCase):
+class WrongTotalTest(Case):
     def test_examples(self):
         self.assertEqual([wrong_total(FOUR, size) for size in range(5)], [0, 2, 5, 3, 0])
         self.assertEqual([wrong_total(Marking(1, ((0,),)), size) for size in range(2)], [0, 0])
@@ -184,21 +162,21 @@ class WrongTotalTest(FillingCase):
     def test_sizes_out_of_bounds(self):
         for marking in MARKINGS:
             for size in [-1, -7, len(marking) + 1, 8, 100, 999999999999]:
-                self.refused(wrong_total, InvalidNumber, marking, size)
+                self.refused(InvalidNumber, size, wrong_total, marking, size)
 
     def test_sizes_of_another_kind(self):
         for size in NOT_INTEGERS:
-            self.refused(wrong_total, InvalidNumber, FOUR, size)
+            self.refused(InvalidNumber, size, wrong_total, FOUR, size)
 
     def test_the_size_is_up_to_the_items_not_the_cells(self):
-        self.refused(wrong_total, InvalidNumber, Marking(8, ((0,),)), 2)
+        self.refused(InvalidNumber, 2, wrong_total, Marking(8, ((0,),)), 2)
         self.assertEqual(wrong_total(Marking(1, ((0,),) * 3), 3), 0)
 
     def test_by_name(self):
         self.assertEqual(wrong_total(size=2, marking=FOUR), 5)
 
 
-class BasicsTest(FillingCase):
+class BasicsTest(Case):
     def test_equal_arguments_tell_equal_results(self):
         for marking in MARKINGS:
             twin = Marking(marking.cells, marking.marks)
@@ -218,7 +196,7 @@ class BasicsTest(FillingCase):
     def test_refused_lists_are_not_changed(self):
         for call, kind in [(filled, InvalidKeys), (wrong, InvalidKeys), (says, InvalidBits)]:
             value = [1, 0, [2]]
-            self.refused(call, kind, FOUR, value)
+            self.refused(kind, value, call, FOUR, value)
             self.assertEqual(value, [1, 0, [2]])
 
 

@@ -22,6 +22,15 @@ INTERFACE = {
         "filled": ["marking", "keys"], "says": ["marking", "bits"], "wrong": ["marking", "keys"],
         "wrong_total": ["marking", "size"],
     },
+    "joining": {
+        "met": ["marking", "one", "other"], "meets": ["marking", "one", "other"],
+        "met_wrong": ["marking", "one", "other"], "folded": ["marking"],
+    },
+    "leaving": {
+        "own_cells": ["marking", "keys", "item"], "lost": ["marking", "keys", "bits"],
+        "counts": ["marking", "keys"], "misled": ["marking", "keys", "item"],
+    },
+    "shares": {"failing": ["cells", "each", "many"], "best_each": ["cells", "many"]},
 }
 
 METHODS = {("markings", "Marking"): ["__init__", "__eq__", "__len__"]}
