@@ -1,4 +1,6 @@
-"""What the modules ask of values, perhaps of any kind."""
+"""What the modules ask of values, perhaps of any kind, and what they choose from numbers."""
+
+from itertools import combinations
 
 
 def is_integer(value):
@@ -24,6 +26,23 @@ def is_ascending(value, below):
     return True
 
 
+def ascend(members):
+    """Whether each of the members, tuples that can be compared, is more than the one ahead of it."""
+    return all([one < other for one, other in zip(members, members[1:])])
+
+
 def lies_within(part, whole):
     """Whether each member of the tuple part is one of the tuple whole."""
     return all([member in whole for member in part])
+
+
+def chosen(many, size):
+    """The list of all ascending tuples of just size numbers below many, ascending."""
+    return list(combinations(range(many), size))
+
+
+def plain(value):
+    """The value, its tuples made plain ones where they are of a class below tuple."""
+    if isinstance(value, tuple):
+        return tuple([plain(member) for member in value])
+    return value

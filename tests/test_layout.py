@@ -31,9 +31,25 @@ INTERFACE = {
         "counts": ["marking", "keys"], "misled": ["marking", "keys", "item"],
     },
     "shares": {"failing": ["cells", "each", "many"], "best_each": ["cells", "many"]},
+    "tellings": {
+        "yeses": ["marking"], "avoiding": ["marking", "cell"], "is_telling": ["many", "value"],
+        "needed": ["many", "telling"], "marking_for": ["many", "telling"],
+    },
+    "free": {
+        "is_free": ["marking", "size"], "worst": ["marking", "size"], "most_free": ["cells"],
+        "free_marks": ["cells", "many"], "free_share": ["cells", "marks"],
+    },
+    "prints": {
+        "Table": ["rooms", "bits", "rows"], "print_table": ["rooms", "bits", "prints"],
+        "tells": ["table", "number"], "grown": ["table"], "shrunk": ["table"], "cut": ["table"],
+        "joined": ["one", "other"], "put": ["table", "number"], "taken": ["table", "number"],
+    },
 }
 
-METHODS = {("markings", "Marking"): ["__init__", "__eq__", "__len__"]}
+METHODS = {
+    ("markings", "Marking"): ["__init__", "__eq__", "__len__"],
+    ("prints", "Table"): ["__init__", "__eq__"],
+}
 
 LIBRARY = {"itertools", "math", "heapq", "collections"}
 
