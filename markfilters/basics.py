@@ -46,3 +46,13 @@ def plain(value):
     if isinstance(value, tuple):
         return tuple([plain(member) for member in value])
     return value
+
+
+def is_same(value, told):
+    """Whether value, of any kind, is equal to told, which is of tuples, strings and integers."""
+    if isinstance(told, tuple):
+        if not isinstance(value, tuple) or len(value) != len(told):
+            return False
+        return all([is_same(mine, yours) for mine, yours in zip(value, told)])
+    # To Python True is equal to 1.
+    return is_integer(value) == is_integer(told) and value == told

@@ -8,7 +8,7 @@ from pathlib import Path
 
 PACKAGE = Path(__file__).resolve().parent.parent / "markfilters"
 
-# For each file that has landed its functions, and its classes with what is made with.
+# For each file its functions and its classes, with what they are called with.
 INTERFACE = {
     "errors": {
         "InvalidNumber": ["value"], "InvalidMarks": ["value"], "InvalidMark": ["value"],
@@ -44,11 +44,28 @@ INTERFACE = {
         "tells": ["table", "number"], "grown": ["table"], "shrunk": ["table"], "cut": ["table"],
         "joined": ["one", "other"], "put": ["table", "number"], "taken": ["table", "number"],
     },
+    "widths": {
+        "is_family": ["many", "size", "width", "value"], "fewest": ["many", "size", "width"],
+        "family": ["many", "size", "width"], "walls": ["many", "size", "width", "k"],
+        "walls_hold": ["many", "size", "width", "k", "value"],
+    },
+    "claims": {
+        "is_question": ["marking", "value"], "is_claim": ["marking", "value"],
+        "answer_of": ["marking", "question"], "question_of": ["marking", "claim"],
+    },
+    "papers": {"paper_of": ["marking", "question"], "claim_holds": ["marking", "claim", "paper"]},
+    "desk": {"Desk": ["marking"], "same_state": ["one", "other"]},
 }
 
+# The methods of each class, with their parameters behind the object itself.
 METHODS = {
-    ("markings", "Marking"): ["__init__", "__eq__", "__len__"],
-    ("prints", "Table"): ["__init__", "__eq__"],
+    ("markings", "Marking"): {"__init__": ["cells", "marks"], "__eq__": ["other"], "__len__": []},
+    ("prints", "Table"): {"__init__": ["rooms", "bits", "rows"], "__eq__": ["other"]},
+    ("desk", "Desk"): {
+        "__init__": ["marking"], "add": ["mark"], "drop": ["item"], "turn": ["item", "mark"], "widen": ["cells"],
+        "fold": [], "watch": ["question"], "leave": ["question"], "undo": [], "redo": [], "claim": ["question"],
+        "paper": ["question"], "report": [],
+    },
 }
 
 LIBRARY = {"itertools", "math", "heapq", "collections"}
@@ -79,8 +96,10 @@ class InterfaceTest(unittest.TestCase):
     def test_methods_stand_in_the_class_itself(self):
         for (module, name), methods in METHODS.items():
             thing = getattr(importlib.import_module(f"markfilters.{module}"), name)
-            for method in methods:
+            for method, parameters in methods.items():
                 self.assertIn(method, vars(thing))
+                told = list(inspect.signature(vars(thing)[method]).parameters)
+                self.assertEqual(told[1:], parameters, method)
 
 
 class FormTest(unittest.TestCase):
